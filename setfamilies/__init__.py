@@ -1,0 +1,1 @@
+"""Families of sets: joined, met, apart. The calls stand in setfamilies.families."""

@@ -1,0 +1,50 @@
+"""Families of sets of a few things.
+
+A set is told as a number, in which thing v counts 2 to the power of v;
+a family is told as a list of such numbers, rising, each once.
+"""
+
+NO_FAMILY = -22
+MOST_THINGS = 5
+
+
+def is_family(n, x):
+    """Tell whether n may be a number of things, and x a family of sets of these."""
+    # n is asked ahead of the shift, which an n far beyond would make too large to hold.
+    if n < 1 or n > MOST_THINGS:
+        return False
+    beyond = 1 << n
+    least = 0
+    for a in x:
+        if a < least or a >= beyond:
+            return False
+        least = a + 1
+    return True
+
+
+def counted(found):
+    """Answer how many sets were found, then these, rising, each once."""
+    sets = sorted(set(found))
+    return [len(sets)] + sets
+
+
+def join(n, x, y):
+    """Answer what either has, of each set of x and each set of y."""
+    if not is_family(n, x) or not is_family(n, y):
+        return [NO_FAMILY]
+    found = []
+    for a in x:
+        for b in y:
+            found.append(a | b)
+    return counted(found)
+
+
+def meet(n, x, y):
+    """Answer what both have, of each set of x and each set of y."""
+    if not is_family(n, x) or not is_family(n, y):
+        return [NO_FAMILY]
+    found = []
+    for a in x:
+        for b in y:
+            found.append(a & b)
+    return counted(found)
