@@ -48,3 +48,25 @@ def meet(n, x, y):
         for b in y:
             found.append(a & b)
     return counted(found)
+
+
+def less(n, x, y):
+    """Answer what the one has and the other hasn't, of each set of x and each set of y."""
+    if not is_family(n, x) or not is_family(n, y):
+        return [NO_FAMILY]
+    found = []
+    for a in x:
+        for b in y:
+            found.append(a & ~b)
+    return counted(found)
+
+
+def below(n, x):
+    """Answer all that is within some set of x."""
+    if not is_family(n, x):
+        return [NO_FAMILY]
+    found = []
+    for b in range(1 << n):
+        if any([a & b == b for a in x]):
+            found.append(b)
+    return counted(found)

@@ -112,7 +112,7 @@ def check_kind(case, answer):
 
 
 def check_pure(case, call, n, *lists):
-    """The call changes nothing, prints nothing and answers the same twice; gives back its answer."""
+    """The call changes nothing and answers the same twice; gives back its answer."""
     ahead = [list(numbers) for numbers in lists]
     handed = [Untouchable(numbers) for numbers in lists]
     first = call(n, *handed)
@@ -135,6 +135,15 @@ def check_wrong_n(case, call, how_many_lists):
             with case.subTest(n=n, numbers=numbers):
                 answer = check_pure(case, call, n, *[list(numbers) for _ in range(how_many_lists)])
                 case.assertEqual(answer, [-22])
+
+
+def check_one_refusals(case, call):
+    """Each wrong n, and each wrong list, is refused."""
+    check_wrong_n(case, call, 1)
+    for n in range(1, 6):
+        for wrong in no_families(n):
+            with case.subTest(n=n, x=wrong):
+                case.assertEqual(check_pure(case, call, n, wrong), [-22])
 
 
 def check_pair_refusals(case, call):
@@ -191,6 +200,30 @@ def check_short_pairs(case, call):
                 for answer in (call(n, numbers, other), call(n, other, numbers)):
                     case.assertEqual(answer == [-22], not taken, (n, numbers, other))
                     case.assertEqual(answer[0] >= 0, taken, (n, numbers, other))
+
+
+def singles(n):
+    """All families for few things, many for more."""
+    return all_families(n) if n <= 3 else some_families(n, 400)
+
+
+def check_singles(case, call, of_one):
+    """The call answers all that of_one makes of each set, for ordinary families of all sizes."""
+    for n in range(1, 6):
+        for x in singles(n):
+            sets = [found for a in x for found in of_one(n, THINGS_OF[a])]
+            answer = check_pure(case, call, n, x)
+            case.assertEqual(answer, told(sets), (n, x))
+
+
+def check_short_singles(case, call):
+    """Of all short lists just those that are families are taken."""
+    for n in range(1, 4):
+        for numbers in short_lists(n):
+            answer = call(n, numbers)
+            taken = is_told_right(n, numbers)
+            case.assertEqual(answer == [-22], not taken, (n, numbers))
+            case.assertEqual(answer[0] >= 0, taken, (n, numbers))
 
 
 def check_one_list_as_both(case, call):
