@@ -6,6 +6,8 @@ a family is told as a list of such numbers, rising, each once.
 
 NO_FAMILY = -22
 MOST_THINGS = 5
+UP = 1
+DOWN = 2
 
 
 def is_family(n, x):
@@ -70,3 +72,26 @@ def below(n, x):
         if any([a & b == b for a in x]):
             found.append(b)
     return counted(found)
+
+
+def above(n, x):
+    """Answer all that some set of x is within."""
+    if not is_family(n, x):
+        return [NO_FAMILY]
+    found = []
+    for b in range(1 << n):
+        if any([a & b == a for a in x]):
+            found.append(b)
+    return counted(found)
+
+
+def kind(n, x):
+    """Answer whether x has all that is above its sets, and all that is below them."""
+    if not is_family(n, x):
+        return [NO_FAMILY]
+    told = 0
+    if above(n, x)[1:] == x:
+        told += UP
+    if below(n, x)[1:] == x:
+        told += DOWN
+    return [told]

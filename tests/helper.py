@@ -44,6 +44,24 @@ def some_families(n, how_many):
     return families
 
 
+def ups(n):
+    """All families that are up, each put together of two for one thing less."""
+    if n == 0:
+        return [[], [0]]
+    smaller = ups(n - 1)
+    return [x + [a + 2 ** (n - 1) for a in y] for x in smaller for y in smaller if set(x) <= set(y)]
+
+
+def downs(n):
+    """All families that are down: what is left of all sets without one that is up."""
+    return [[a for a in all_sets(n) if a not in x] for x in ups(n)]
+
+
+def some_of(families):
+    """Few enough to be paired with one another: all of up to 200."""
+    return families[::1 + len(families) // 200]
+
+
 def no_families(n):
     """Lists that are not a family of sets of n things (n from 1 to 5)."""
     beyond = 2 ** n
@@ -182,13 +200,20 @@ def pairs(n):
     return [(x, y) for x in families for y in families]
 
 
-def check_pairs(case, call, of_two):
-    """The call answers what of_two makes of each two sets, for ordinary families of all sizes."""
+def check_answers_of_pairs(case, call, expected):
+    """The call answers what is expected of n, x and y, for ordinary families of all sizes."""
     for n in range(1, 6):
         for x, y in pairs(n):
-            sets = [of_two(THINGS_OF[a], THINGS_OF[b]) for a in x for b in y]
             answer = check_pure(case, call, n, x, y)
-            case.assertEqual(answer, told(sets), (n, x, y))
+            case.assertEqual(answer, expected(n, x, y), (n, x, y))
+
+
+def check_pairs(case, call, of_two):
+    """The call answers what of_two makes of each two sets."""
+    def expected(n, x, y):
+        return told([of_two(THINGS_OF[a], THINGS_OF[b]) for a in x for b in y])
+
+    check_answers_of_pairs(case, call, expected)
 
 
 def check_short_pairs(case, call):
@@ -207,13 +232,20 @@ def singles(n):
     return all_families(n) if n <= 3 else some_families(n, 400)
 
 
-def check_singles(case, call, of_one):
-    """The call answers all that of_one makes of each set, for ordinary families of all sizes."""
+def check_answers_of_singles(case, call, expected):
+    """The call answers what is expected of n and x, for ordinary families of all sizes."""
     for n in range(1, 6):
         for x in singles(n):
-            sets = [found for a in x for found in of_one(n, THINGS_OF[a])]
             answer = check_pure(case, call, n, x)
-            case.assertEqual(answer, told(sets), (n, x))
+            case.assertEqual(answer, expected(n, x), (n, x))
+
+
+def check_singles(case, call, of_one):
+    """The call answers all that of_one makes of each set."""
+    def expected(n, x):
+        return told([found for a in x for found in of_one(n, THINGS_OF[a])])
+
+    check_answers_of_singles(case, call, expected)
 
 
 def check_short_singles(case, call):
