@@ -95,3 +95,32 @@ def kind(n, x):
     if below(n, x)[1:] == x:
         told += DOWN
     return [told]
+
+
+def both(n, x, y):
+    """Answer how many sets x and y have in common."""
+    if not is_family(n, x) or not is_family(n, y):
+        return [NO_FAMILY]
+    return [len([a for a in x if a in y])]
+
+
+def has_all_like(n, x, a, things):
+    """Tell whether x has all sets that have of these things just those that a has."""
+    return all([b in x for b in range(1 << n) if b & things == a & things])
+
+
+def is_apart_for(n, x, y, a, things):
+    """Tell whether x has all that are like a at these things, and y all that are like it at all others."""
+    return has_all_like(n, x, a, things) and has_all_like(n, y, a, ~things)
+
+
+def apart(n, x, y):
+    """Answer all sets that are in both apart."""
+    if not is_family(n, x) or not is_family(n, y):
+        return [NO_FAMILY]
+    found = []
+    # A set is like itself at whatever things, so that only one of x may be in both apart.
+    for a in x:
+        if any([is_apart_for(n, x, y, a, things) for things in range(1 << n)]):
+            found.append(a)
+    return counted(found)

@@ -265,3 +265,21 @@ def check_one_list_as_both(case, call):
             handed = Untouchable(x)
             case.assertEqual(call(n, handed, handed), call(n, list(x), list(x)))
             case.assertEqual(list(handed), x)
+
+
+def of_kind(kind, n, kinds):
+    """Families that kind tells to be one of these kinds: all for few things, many for more."""
+    families = all_families(n) if n <= 3 else some_of(ups(n)) + some_of(downs(n))
+    return [x for x in families if kind(n, x)[0] in kinds]
+
+
+def check_in_common(case, kind, in_common):
+    """Two that are up have in common, times all sets, no fewer than both multiplied; one up, one down, no more."""
+    for n in range(1, 6):
+        up = of_kind(kind, n, (1, 3))
+        down = of_kind(kind, n, (2, 3))
+        for x in up:
+            for y in up:
+                case.assertGreaterEqual(in_common(n, x, y) * 2 ** n, len(x) * len(y), (n, x, y))
+            for y in down:
+                case.assertLessEqual(in_common(n, x, y) * 2 ** n, len(x) * len(y), (n, x, y))

@@ -131,23 +131,8 @@ class Refusals(unittest.TestCase):
 
 
 class WhatHolds(unittest.TestCase):
-    def told(self, n, kinds):
-        families = helper.singles(n) if n <= 3 else helper.some_of(helper.ups(n)) + helper.some_of(helper.downs(n))
-        return [x for x in families if kind(n, x)[0] in kinds]
-
-    def test_two_that_are_up_have_no_fewer_in_common(self):
-        for n in range(1, 6):
-            ups = self.told(n, (1, 3))
-            for x in ups:
-                for y in ups:
-                    self.assertGreaterEqual(len(set(x) & set(y)) * 2 ** n, len(x) * len(y), (n, x, y))
-
-    def test_one_up_and_one_down_have_no_more_in_common(self):
-        for n in range(1, 6):
-            downs = self.told(n, (2, 3))
-            for x in self.told(n, (1, 3)):
-                for y in downs:
-                    self.assertLessEqual(len(set(x) & set(y)) * 2 ** n, len(x) * len(y), (n, x, y))
+    def test_how_many_are_in_common(self):
+        helper.check_in_common(self, kind, lambda n, x, y: len(set(x) & set(y)))
 
 
 if __name__ == "__main__":
