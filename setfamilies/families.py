@@ -5,6 +5,8 @@ a family is told as a list of such numbers, rising, each once.
 """
 
 NO_FAMILY = -22
+NO_SET = -2
+NOT_APART = -33
 MOST_THINGS = 5
 UP = 1
 DOWN = 2
@@ -123,4 +125,36 @@ def apart(n, x, y):
     for a in x:
         if any([is_apart_for(n, x, y, a, things) for things in range(1 << n)]):
             found.append(a)
+    return counted(found)
+
+
+def shown(n, w, x, y):
+    """Answer the least set of things for which w is in both apart."""
+    if not is_family(n, x) or not is_family(n, y):
+        return [NO_FAMILY]
+    if w >= 1 << n:
+        return [NO_SET]
+    for things in range(1 << n):
+        if is_apart_for(n, x, y, w, things):
+            return [things]
+    return [NOT_APART]
+
+
+def pressed_at(x, thing):
+    """Give a new family: x with the thing taken out of each set, but where x has the set without it, too."""
+    found = []
+    for a in x:
+        without = a & ~thing
+        # A set that hasn't the thing is itself the one without it, and so stays.
+        found.append(a if without in x else without)
+    return found
+
+
+def pressed(n, x):
+    """Answer x pressed down, thing by thing."""
+    if not is_family(n, x):
+        return [NO_FAMILY]
+    found = x
+    for v in range(n):
+        found = pressed_at(found, 1 << v)
     return counted(found)

@@ -62,6 +62,10 @@ def some_of(families):
     return families[::1 + len(families) // 200]
 
 
+def few_of(families):
+    return families[::1 + len(families) // 16]
+
+
 def no_families(n):
     """Lists that are not a family of sets of n things (n from 1 to 5)."""
     beyond = 2 ** n
@@ -115,6 +119,24 @@ def number_of(things):
 
 
 THINGS_OF = [things_of(number) for number in range(32)]
+
+
+def like(n, a, things):
+    """All sets that have of these things just those that a has."""
+    asked = THINGS_OF[things]
+    return {b for b in range(2 ** n) if THINGS_OF[b] & asked == THINGS_OF[a] & asked}
+
+
+LIKE = {(n, a, things): like(n, a, things) for n in range(1, 6) for a in range(2 ** n) for things in range(2 ** n)}
+
+
+def things_that_show(n, a, x, y):
+    """All sets of things for which a is in both apart, rising."""
+    has, other_has = set(x), set(y)
+    whole = 2 ** n - 1
+    return [
+        things for things in range(2 ** n) if LIKE[n, a, things] <= has and LIKE[n, a, whole - things] <= other_has
+    ]
 
 
 def told(sets):

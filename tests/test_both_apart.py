@@ -4,22 +4,8 @@ from setfamilies.families import apart, both, kind
 from tests import helper
 
 
-def like(n, a, things):
-    """All sets that have of these things just those that a has."""
-    asked = helper.THINGS_OF[things]
-    return {b for b in range(2 ** n) if helper.THINGS_OF[b] & asked == helper.THINGS_OF[a] & asked}
-
-
-LIKE = {(n, a, things): like(n, a, things) for n in range(1, 6) for a in range(2 ** n) for things in range(2 ** n)}
-
-
 def told_by_things_and_all_others(n, x, y):
-    def is_in_both_apart(a):
-        return any(
-            LIKE[n, a, things] <= set(x) and LIKE[n, a, 2 ** n - 1 - things] <= set(y) for things in range(2 ** n)
-        )
-
-    found = [a for a in range(2 ** n) if is_in_both_apart(a)]
+    found = [a for a in range(2 ** n) if helper.things_that_show(n, a, x, y)]
     return [len(found)] + found
 
 
@@ -27,8 +13,8 @@ def told_by_two_that_have_no_thing_in_common(n, x, y):
     """The same, by way of more: things for x and others for y, which needn't be all others."""
     found = []
     for a in range(2 ** n):
-        for_x = [things for things in range(2 ** n) if LIKE[n, a, things] <= set(x)]
-        for_y = [things for things in range(2 ** n) if LIKE[n, a, things] <= set(y)]
+        for_x = [things for things in range(2 ** n) if helper.LIKE[n, a, things] <= set(x)]
+        for_y = [things for things in range(2 ** n) if helper.LIKE[n, a, things] <= set(y)]
         if any(one & other == 0 for one in for_x for other in for_y):
             found.append(a)
     return [len(found)] + found
@@ -36,10 +22,6 @@ def told_by_two_that_have_no_thing_in_common(n, x, y):
 
 def common(n, x, y):
     return [len(set(x) & set(y))]
-
-
-def few_of(families):
-    return families[::1 + len(families) // 16]
 
 
 class OrdinaryFamilies(unittest.TestCase):
@@ -65,29 +47,29 @@ class OrdinaryFamilies(unittest.TestCase):
 
     def test_apart_is_told_by_two_that_have_no_thing_in_common(self):
         for n in range(1, 5):
-            for x in few_of(helper.singles(n)):
-                for y in few_of(helper.singles(n)):
+            for x in helper.few_of(helper.singles(n)):
+                for y in helper.few_of(helper.singles(n)):
                     self.assertEqual(apart(n, x, y), told_by_two_that_have_no_thing_in_common(n, x, y), (n, x, y))
 
     def test_apart_of_those_that_are_up_or_down(self):
         for n in range(1, 6):
-            families = few_of(helper.ups(n)) + few_of(helper.downs(n))
+            families = helper.few_of(helper.ups(n)) + helper.few_of(helper.downs(n))
             for x in families:
                 for y in families:
                     self.assertEqual(apart(n, x, y), told_by_things_and_all_others(n, x, y), (n, x, y))
 
     def test_of_one_up_and_one_down_all_in_both_are_so_apart(self):
         for n in range(1, 6):
-            for x in few_of(helper.ups(n)):
-                for y in few_of(helper.downs(n)):
+            for x in helper.few_of(helper.ups(n)):
+                for y in helper.few_of(helper.downs(n)):
                     in_both = sorted(set(x) & set(y))
                     self.assertEqual(apart(n, x, y), [len(in_both)] + in_both)
                     self.assertEqual(apart(n, y, x), [len(in_both)] + in_both)
 
     def test_the_other_way_round(self):
         for n in range(1, 6):
-            for x in few_of(helper.singles(n)):
-                for y in few_of(helper.singles(n)):
+            for x in helper.few_of(helper.singles(n)):
+                for y in helper.few_of(helper.singles(n)):
                     self.assertEqual(both(n, x, y), both(n, y, x))
                     self.assertEqual(apart(n, x, y), apart(n, y, x))
 

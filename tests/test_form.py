@@ -19,6 +19,8 @@ CALLS = {
     "kind": (["n", "x"], (2, [1]), (2, [4])),
     "both": (["n", "x", "y"], (2, [1], [1]), (2, [4], [2])),
     "apart": (["n", "x", "y"], (2, [0, 1], [0, 2]), (2, [4], [2])),
+    "shown": (["n", "w", "x", "y"], (2, 0, [0, 1], [0, 2]), (2, 0, [4], [2])),
+    "pressed": (["n", "x"], (2, [1]), (2, [4])),
 }
 
 
@@ -51,7 +53,7 @@ class Interface(unittest.TestCase):
         for name, (arguments, taken, refused) in CALLS.items():
             first = getattr(families, name)(*taken)
             getattr(families, name)(*refused)
-            getattr(families, name)(5, *[list(range(32)) for _ in taken[1:]])
+            getattr(families, name)(5, *[list(range(32)) if isinstance(given, list) else given for given in taken[1:]])
             self.assertEqual(getattr(families, name)(*taken), first)
         self.assertEqual(kept(), ahead)
 
