@@ -158,3 +158,16 @@ def pressed(n, x):
     for v in range(n):
         found = pressed_at(found, 1 << v)
     return counted(found)
+
+
+def is_told_apart(n, x, things):
+    """Tell whether each set within these things is what some set of x has of them."""
+    had = [a & things for a in x]
+    return all([b in had for b in range(1 << n) if b & things == b])
+
+
+def shattered(n, x):
+    """Answer all sets of things that are told apart by x."""
+    if not is_family(n, x):
+        return [NO_FAMILY]
+    return counted([things for things in range(1 << n) if is_told_apart(n, x, things)])

@@ -9,7 +9,7 @@ from setfamilies import families
 
 PACKAGE = pathlib.Path(families.__file__).parent
 
-# Each call that has landed: its arguments, and a call that is taken and one that is refused.
+# Each call of the interface: its arguments, and a call that is taken and one that is refused.
 CALLS = {
     "join": (["n", "x", "y"], (2, [1], [2]), (2, [4], [2])),
     "meet": (["n", "x", "y"], (2, [1], [2]), (2, [4], [2])),
@@ -21,6 +21,7 @@ CALLS = {
     "apart": (["n", "x", "y"], (2, [0, 1], [0, 2]), (2, [4], [2])),
     "shown": (["n", "w", "x", "y"], (2, 0, [0, 1], [0, 2]), (2, 0, [4], [2])),
     "pressed": (["n", "x"], (2, [1]), (2, [4])),
+    "shattered": (["n", "x"], (2, [1]), (2, [4])),
 }
 
 
